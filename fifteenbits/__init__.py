@@ -1,0 +1,1 @@
+"""A guidance computer of fifteen-bit words."""
