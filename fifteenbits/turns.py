@@ -65,8 +65,8 @@ def stands_still(machine):
         return False
     word = read_narrow(machine, machine.z)
     if word == machine.z:
-        # A TC; of 2, 3, 4 and 6 it is not one that sets Q and goes there.
-        return word not in (2, 3, 4, 6) and machine.q == word + 1
+        # A TC; of 2, 3, 4 and 6 it is not one that sets Q and goes there. Q gets Z's 12 bits: behind 07777 comes 0.
+        return word not in (2, 3, 4, 6) and machine.q == word + 1 & 0o7777
     # A TCF; below 02000 the word would be a CCS.
     return word == 0o10000 + machine.z and machine.z >= 0o2000
 

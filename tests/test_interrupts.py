@@ -180,6 +180,8 @@ class StandingStill(MachineCase):
         {"z": 0o5000, "staying": JUMP}, {"z": 0o5000, "q": 0o5001, "staying": {0o5000: code("TC", 0o5000)}},
         {"z": 0o2000, "fb": 3, "staying": {3072: code("TCF", 0o2000)}},
         {"z": 0o7777, "staying": {0o7777: code("TCF", 0o7777)}},
+        {"z": 0o7777, "staying": {0o7777: code("TC", 0o7777)}},
+        {"z": 0o7776, "q": 0o7777, "staying": {0o7776: code("TC", 0o7776)}},
         {"z": 0o5000, "staying": JUMP, "asked": 7, "barred": True},
         {"z": 0o5000, "staying": JUMP, "asked": 7, "serving": True},
         {"z": 0o5000, "staying": JUMP, "asked": 7, "a": UP},
@@ -190,6 +192,9 @@ class StandingStill(MachineCase):
         {"z": 0o1402, "q": 0o1403}, {"z": 0o5000, "staying": {0o5000: code("TC", 0o5000)}},
         {"z": 0o5000, "q": 0o5001, "staying": {0o5000: code("TC", 0o5001)}},
         {"z": 0o5000, "staying": {0o5000: code("TCF", 0o5001)}},
+        {"z": 0o7777, "q": 0o10000, "staying": {0o7777: code("TC", 0o7777)}},
+        {"z": 0o7777, "q": 0o7777, "staying": {0o7777: code("TC", 0o7777)}},
+        {"z": 0o5000, "q": 0o105001, "staying": {0o5000: code("TC", 0o5000)}},
         {"z": 0o100, "changing": {0o100: code("CCS", 0o100)}}, {"z": 0o1777, "changing": {0o377: code("CCS", 0o1777)}},
         {"z": 0o100, "changing": {0o100: code("INDEX", 0o100)}},
         {"z": 0o2000, "staying": {0: code("DAS", 0o2000)}}, {"z": 0o5000, "staying": {0o5000: code("CA", 0o5000)}},
@@ -217,6 +222,24 @@ class StandingStill(MachineCase):
             self.assertTrue(stands_still(machine), state)
             take_turn(machine)
             self.same(machine, made(**state), state)
+
+    def test_jumps_in_place_at_every_place(self):
+        machine = made()
+        for place in range(0o4000, 0o10000):
+            for word in (place, 0o10000 + place):
+                for q in (0, place, place + 1, 0o10000, place + 0o100001):
+                    put(machine, {"z": place, "q": q, "staying": {place: word}})
+                    still = stands_still(machine)
+                    take_turn(machine)
+                    self.assertEqual(still, (machine.z, machine.q) == (place, q), (oct(word), oct(q)))
+
+    def test_a_tc_in_place_behind_a_jump_there(self):
+        # The turn ahead leads to the same place, so that the run looks there whether it stands still.
+        for q in (0, 1, 0o7777, 0o10000, 0o100000):
+            for turns in (1, 2, 3, 1000):
+                machine = made(z=0o7777, q=q, index_word=0o10000, staying={0o7777: code("TC", 0o7777)})
+                run(machine, turns)
+                self.same(machine, made(z=0o7777, q=q if turns == 1 else 0, staying={0o7777: code("TC", 0o7777)}))
 
     def test_all_others_go_on(self):
         for state in self.GOING_ON:
