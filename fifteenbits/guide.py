@@ -2,10 +2,12 @@
 
 from fifteenbits.counters import ask_for, pulse_down, pulse_up
 from fifteenbits.machine import BANK_WORDS, BANKS, Machine
+from fifteenbits.panel import is_word, look_at, poke_in, set_value, shown_values
 from fifteenbits.turns import run
 
 DONE = 0
 REFUSED = -1
+LAST_VALUE = 8
 
 
 class Reader:
@@ -78,7 +80,44 @@ def answer_pulse(machine, reader):
     return DONE
 
 
-CALLS = {1: answer_begin, 2: answer_load, 3: answer_run, 4: answer_ask, 5: answer_pulse}
+def answer_get(machine, reader):
+    k = reader.take_number()
+    if k < 0 or k > LAST_VALUE:
+        return REFUSED
+    return shown_values(machine)[k]
+
+
+def answer_set(machine, reader):
+    k = reader.take_number()
+    v = reader.take_number()
+    if k < 0 or k > LAST_VALUE:
+        return REFUSED
+    set_value(machine, k, v)
+    return DONE
+
+
+def answer_look(machine, reader):
+    kind = reader.take_number()
+    k = reader.take_number()
+    if not is_word(kind, k):
+        return REFUSED
+    return look_at(machine, kind, k)
+
+
+def answer_poke(machine, reader):
+    kind = reader.take_number()
+    k = reader.take_number()
+    v = reader.take_number()
+    if not is_word(kind, k):
+        return REFUSED
+    poke_in(machine, kind, k, v & 0o77777)
+    return DONE
+
+
+CALLS = {
+    1: answer_begin, 2: answer_load, 3: answer_run, 4: answer_ask, 5: answer_pulse,
+    6: answer_get, 7: answer_set, 8: answer_look, 9: answer_poke,
+}
 
 
 def follow(machine, calls):

@@ -1,7 +1,8 @@
-"""Machines that are set by hand, and a check of everything that they hold."""
+"""Machines that are set by hand, a check of everything that they hold, and lines of calls."""
 
 import unittest
 
+from fifteenbits.guide import answers
 from fifteenbits.machine import Machine
 from fifteenbits.turns import run
 
@@ -21,6 +22,16 @@ SECOND = {
 }
 ROWS = ("changing", "staying", "channels")
 
+BEGIN, LOAD, RUN, ASK, PULSE, GET, SET, LOOK, POKE = range(1, 10)
+A, L, Q, EB, FB, Z, BARRED, SERVING, ASKED = range(9)
+STAYING, CHANGING, CHANNEL = range(3)
+LEAST_INT = -2147483648
+MOST_INT = 2147483647
+MOST_NUMBER = 4294967295
+# What get tells of a new machine, from 0 to 8.
+NEW = [0, 0, 0, 0, 0, 0o4000, 0, 0, 0]
+GET_ALL = [[GET, k] for k in range(9)]
+
 
 def code(name, k):
     """The word of an instruction, k as it stands in the word."""
@@ -31,6 +42,23 @@ def program(name, k):
     if name in FIRST:
         return [code(name, k)]
     return [EXTEND, code(name, k)]
+
+
+def load(bank, at, words, n=None):
+    return [LOAD, bank, at, len(words) if n is None else n, len(words)] + list(words)
+
+
+def line_of(calls):
+    """Calls one behind another in one list, begin first."""
+    return [BEGIN] + [number for call in calls for number in call]
+
+
+def answered(calls):
+    """What is answered to these calls behind begin; each answer must have its count ahead, which is 1."""
+    given = answers(line_of(calls))
+    if given[:2] != [1, 0] or given[0::2] != [1] * (len(calls) + 1) or len(given) != 2 * len(calls) + 2:
+        raise AssertionError(given)
+    return given[3::2]
 
 
 def put(machine, state):

@@ -2,16 +2,7 @@
 
 from fifteenbits.guide import answers, follow
 from fifteenbits.machine import Machine
-from rig import MachineCase, code, made, put
-
-BEGIN, LOAD, RUN, ASK, PULSE = 1, 2, 3, 4, 5
-LEAST_INT = -2147483648
-MOST_INT = 2147483647
-MOST_NUMBER = 4294967295
-
-
-def load(bank, at, words, n=None):
-    return [LOAD, bank, at, len(words) if n is None else n, len(words)] + list(words)
+from rig import ASK, BEGIN, LEAST_INT, MOST_INT, MOST_NUMBER, PULSE, RUN, MachineCase, code, load, made, put
 
 
 class CallCase(MachineCase):
